@@ -1,0 +1,1 @@
+"""Losing games that win by turns."""
