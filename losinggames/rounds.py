@@ -1,6 +1,8 @@
 """The calls on one table, taken from one list of whole numbers and answered in another."""
 
-from losinggames.longrun import gain_of_row
+from losinggames.reckoning import (
+    average_behind, chance_of_more, gain_of_row, is_greater, mixed_game, rests_of_row, rounds_of_row, rows_of_length,
+)
 
 GAME = 0
 DROP = 1
@@ -8,16 +10,25 @@ HAVE = 2
 PLAY = 3
 SHOWS = 4
 GAIN = 5
+RESTS = 6
+MIX = 7
+BEST = 8
+AFTER = 9
+CHANCE = 10
+LOSES = 11
 
-# By the number of the call: how many whole numbers it has, and whether a row stands behind them.
-NUMBERS = (4, 0, 1, 2, 0, 0)
-WITH_ROW = (False, False, False, False, False, True)
+# By the number of the call: how many whole numbers it has, and whether a row (or weights) stands behind them.
+NUMBERS = (4, 0, 1, 2, 0, 0, 0, 0, 1, 1, 2, 0)
+WITH_ROW = (False, False, False, False, False, True, True, True, False, True, True, True)
 
 MOST_GAMES = 4
 MOST_IN_ROW = 6
 LEAST_V = 2
 MOST_V = 100
 MOST_HAD = 1000000
+MOST_WEIGHT = 9
+MOST_IN_BEST = 4
+MOST_ROUNDS = 30
 
 
 class Table:
@@ -92,11 +103,67 @@ def sign_told(above):
     return 0
 
 
-def gain(table, row):
+def gain_told(row):
+    fraction = gain_of_row(row)
+    return [0, fraction[0], fraction[1], sign_told(fraction[0])]
+
+
+def rests(row):
+    told = [0]
+    for fraction in rests_of_row(row):
+        told.extend(fraction)
+    return told
+
+
+def loses(row):
+    if any([gain_of_row([game])[0] >= 0 for game in row]):
+        return [0]
+    if gain_of_row(row)[0] > 0:
+        return [1]
+    return [0]
+
+
+def mix(table, weights):
+    if len(weights) != len(table.games):
+        return [-2]
+    if any([weight > MOST_WEIGHT for weight in weights]) or sum(weights) == 0:
+        return [-2]
+    return gain_told([mixed_game(table.games, weights)])
+
+
+def best(table, numbers):
+    length = numbers[0]
+    if len(table.games) == 0:
+        return [-2]
+    if length < 1 or length > MOST_IN_BEST:
+        return [-1]
+    chosen = []
+    # No row gains as little as this, since every game can be won.
+    greatest = [-1, 1]
+    for row in rows_of_length(len(table.games), length):
+        fraction = gain_of_row([table.games[number] for number in row])
+        if is_greater(fraction, greatest):
+            chosen = row
+            greatest = fraction
+    return chosen + greatest
+
+
+def answer_on_row(table, call, numbers, row):
     if not is_row(table, row):
         return [-2]
-    fraction = gain_of_row([table.games[number] for number in row])
-    return [0, fraction[0], fraction[1], sign_told(fraction[0])]
+    games = [table.games[number] for number in row]
+    if call == GAIN:
+        return gain_told(games)
+    if call == RESTS:
+        return rests(games)
+    if call == LOSES:
+        return loses(games)
+    if numbers[0] > MOST_ROUNDS:
+        return [-1]
+    played = rounds_of_row(games, numbers[0])
+    if call == AFTER:
+        return [0] + average_behind(table.had, played)
+    return [0] + chance_of_more(table.had, numbers[1], played)
 
 
 def answer(table, call, numbers, row):
@@ -110,7 +177,11 @@ def answer(table, call, numbers, row):
         return play(table, numbers)
     if call == SHOWS:
         return shows(table)
-    return gain(table, row)
+    if call == MIX:
+        return mix(table, row)
+    if call == BEST:
+        return best(table, numbers)
+    return answer_on_row(table, call, numbers, row)
 
 
 def answers(calls):

@@ -5,58 +5,9 @@ import unittest
 from fractions import Fraction
 
 from tests.lines import (
-    DROP, EVEN, EVEN_LESS, SHOWS, TOP, UNEVEN, UNEVEN_LESS, ask, gain, game, have, last, play,
+    DROP, EVEN, EVEN_LESS, SHOWS, TOP, UNEVEN, UNEVEN_LESS, ask, gain, game, have, last, play, told_as_gain,
 )
-
-
-def solved(lines):
-    """The unknowns of three equations, each a list of three factors and what they come to."""
-    for column in range(3):
-        chosen = next(k for k in range(column, 3) if lines[k][column] != 0)
-        lines[column], lines[chosen] = lines[chosen], lines[column]
-        lines[column] = [x / lines[column][column] for x in lines[column]]
-        for k in range(3):
-            if k != column:
-                factor = lines[k][column]
-                lines[k] = [x - factor * y for x, y in zip(lines[k], lines[column])]
-    return [line[3] for line in lines]
-
-
-def paths(games, rest):
-    """Each way the row may go from this rest: how likely it is, what it wins."""
-    for way in itertools.product((1, -1), repeat=len(games)):
-        likely = Fraction(1)
-        had = rest
-        for (v, *chances), step in zip(games, way):
-            win = Fraction(chances[had % 3], v)
-            likely *= win if step == 1 else 1 - win
-            had += step
-        yield likely, had - rest
-
-
-def expected(games):
-    """The gain by the words of the document: every way a row may go, and equations for the rests."""
-    moves = [[Fraction(0)] * 3 for rest in range(3)]
-    wins = [Fraction(0)] * 3
-    for rest in range(3):
-        for likely, won in paths(games, rest):
-            moves[rest][(rest + won) % 3] += likely
-            wins[rest] += likely * won
-    lines = [[moves[k][rest] - (1 if k == rest else 0) for k in range(3)] + [0] for rest in range(2)]
-    shares = solved(lines + [[Fraction(1)] * 4])
-    return sum(share * won for share, won in zip(shares, wins)) / len(games)
-
-
-def told_as(value):
-    sign = 1 if value > 0 else 2 if value == 0 else 0
-    return [0, value.numerator, value.denominator, sign]
-
-
-def drawn(seed):
-    """Whole numbers in a fixed order that looks like none."""
-    while True:
-        seed = (seed * 1103515245 + 12345) % 2 ** 31
-        yield seed >> 8
+from tests.reckoned import drawn, drawn_game, expected_gain
 
 
 class Value(unittest.TestCase):
@@ -82,7 +33,7 @@ class Value(unittest.TestCase):
         for v in (2, 3, 10, 99, 100):
             for u in (1, v // 2, v - 1):
                 with self.subTest(v=v, u=u):
-                    self.assertEqual(last(game(v, u, u, u), gain(0)), told_as(Fraction(2 * u - v, v)))
+                    self.assertEqual(last(game(v, u, u, u), gain(0)), told_as_gain(Fraction(2 * u - v, v)))
 
     def test_lowest_terms(self):
         self.assertEqual(last(game(100, 60, 60, 60), gain(0)), [0, 1, 5, 1])
@@ -101,7 +52,7 @@ class Value(unittest.TestCase):
                     more = u0 * u1 * u2 - (v - u0) * (v - u1) * (v - u2)
                     sign = 1 if more > 0 else 2 if more == 0 else 0
                     told = last(game(v, u0, u1, u2), gain(0))
-                    self.assertEqual(told, told_as(expected([(v, u0, u1, u2)])))
+                    self.assertEqual(told, told_as_gain(expected_gain([(v, u0, u1, u2)])))
                     self.assertEqual(told[3], sign)
 
     def test_every_row_of_two_games(self):
@@ -110,21 +61,18 @@ class Value(unittest.TestCase):
             for length in range(1, 7):
                 for row in itertools.product((0, 1), repeat=length):
                     with self.subTest(games=games, row=row):
-                        value = expected([games[number] for number in row])
-                        self.assertEqual(last(*made, gain(*row)), told_as(value))
+                        value = expected_gain([games[number] for number in row])
+                        self.assertEqual(last(*made, gain(*row)), told_as_gain(value))
 
     def test_rows_of_four_games(self):
         numbers = drawn(7)
         signs = {0: 0, 1: 0, 2: 0}
         for turn in range(150):
-            games = []
-            for made in range(4):
-                v = 2 + next(numbers) % (6 if turn % 2 else 99)
-                games.append((v, *[1 + next(numbers) % (v - 1) for rest in range(3)]))
+            games = [drawn_game(numbers, 7 if turn % 2 else 100) for made in range(4)]
             row = [next(numbers) % 4 for place in range(1 + turn % 6)]
             with self.subTest(games=games, row=row):
                 told = last(*[game(*one) for one in games], gain(*row))
-                self.assertEqual(told, told_as(expected([games[number] for number in row])))
+                self.assertEqual(told, told_as_gain(expected_gain([games[number] for number in row])))
                 signs[told[3]] += 1
         self.assertGreater(min(signs[0], signs[1]), 20)
 
@@ -133,7 +81,8 @@ class Value(unittest.TestCase):
         made = [game(*one) for one in games]
         for row in ((0, 1, 2, 3, 0, 1), (2, 2, 2, 3, 3, 3), (3, 2, 1, 0, 3, 2), (0, 0, 0, 0, 0, 0), (1, 1, 1, 1, 1, 1)):
             with self.subTest(row=row):
-                self.assertEqual(last(*made, gain(*row)), told_as(expected([games[number] for number in row])))
+                value = expected_gain([games[number] for number in row])
+                self.assertEqual(last(*made, gain(*row)), told_as_gain(value))
 
     def test_a_row_played_twice_or_begun_later_gains_the_same(self):
         told = ask(game(*EVEN_LESS), game(*UNEVEN_LESS), gain(0, 1, 1), gain(0, 1, 1, 0, 1, 1), gain(1, 1, 0),
